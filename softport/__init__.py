@@ -1,0 +1,1 @@
+"""A craft that comes alongside a station, and the people's end of its link."""
