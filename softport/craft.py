@@ -2,13 +2,12 @@
 
 from softport.chart import Chart, boxes_in, is_chart_as_told
 from softport.drift import Drifts
-from softport.messages import ALONGSIDE, AWAY, answer_to, is_order, order_number, order_what
-from softport.messages import report_of, report_without_state, sent
+from softport.messages import ALONGSIDE, AWAY, answer_to, is_order, number_of_order
+from softport.messages import report_of, report_without_state, sent, what_of
 from softport.motion import behind_tick
+from softport.refusals import NO_MESSAGE, NOT_AS_TOLD
 from softport.routes import MOST_TICKS, AwayRoutes, SureRoutes
 
-NOT_AS_TOLD = -22
-NO_MESSAGE = -71
 NO_BURN = (0, 0)
 
 IDLE = 0
@@ -115,12 +114,12 @@ class Craft:
     def heard(self, m):
         if not is_order(m):
             return [NO_MESSAGE]
-        number = order_number(m)
+        number = number_of_order(m)
         if number < self.last_order:
             return [0]
         if number > self.last_order:
             self.last_order = number
-            self.mode = order_what(m)
+            self.mode = what_of(m)
             self.expect_nothing()
         return [0] + sent(answer_to(self.mode, self.last_order))
 

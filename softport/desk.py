@@ -8,10 +8,14 @@ CR_TICK = 1
 CR_HEARD = 2
 CR_STATE = 3
 PE_START = 4
+PE_ORDER = 5
+PE_HEARD = 6
+PE_TICK = 7
+PE_STATE = 8
 
 # For each call, by its number: how many whole numbers stand behind that, and whether a row follows them.
-NUMBERS_OF = (7, 4, 0, 0, 0)
-HAS_ROW = (True, False, True, False, False)
+NUMBERS_OF = (7, 4, 0, 0, 0, 1, 0, 0, 0)
+HAS_ROW = (True, False, True, False, False, False, True, False, False)
 
 
 def answers(calls):
@@ -36,12 +40,28 @@ def answers(calls):
 
 
 def answer_call(craft, people, call, numbers, row):
+    if call < PE_START:
+        return answer_of_craft(craft, call, numbers, row)
+    return answer_of_people(people, call, numbers, row)
+
+
+def answer_of_craft(craft, call, numbers, row):
     if call == CR_START:
         return craft.start(numbers, row)
     if call == CR_TICK:
         return craft.tick(tuple(numbers))
     if call == CR_HEARD:
         return craft.heard(row)
-    if call == CR_STATE:
-        return craft.told_state()
-    return people.start()
+    return craft.told_state()
+
+
+def answer_of_people(people, call, numbers, row):
+    if call == PE_START:
+        return people.start()
+    if call == PE_ORDER:
+        return people.order(numbers[0])
+    if call == PE_HEARD:
+        return people.heard(row)
+    if call == PE_TICK:
+        return people.tick()
+    return people.told_state()

@@ -41,6 +41,22 @@ def pe_start():
     return [4]
 
 
+def pe_order(what):
+    return [5, what]
+
+
+def pe_heard(m):
+    return [6, len(m)] + list(m)
+
+
+def pe_tick():
+    return [7]
+
+
+def pe_state():
+    return [8]
+
+
 def split(given):
     """A list for each call."""
     rows = []
@@ -61,6 +77,10 @@ def report(what, x, y, vx, vy, number):
 
 def answer(what, number):
     return [1, 2, what, number % 256, number // 256, 0, 0, 0, 0]
+
+
+def sent_order(what, number):
+    return [1, 1, what, number % 256, number // 256, 0, 0, 0, 0]
 
 
 # --- maps, states, burns
@@ -287,7 +307,65 @@ class WordsCraft:
         return max(sure) if sure else None
 
 
-# --- maps and lines by chance, the same each time
+# --- the people's end
+
+class WordsPeople:
+    def __init__(self):
+        self.orders = []
+        self.answered = []
+        self.known = (0, 0, 0, 0, 0)
+        self.ticks = 0
+
+    def order(self, what):
+        if what != 1 and what != 2:
+            return [-22]
+        if len(self.orders) == 65535:
+            return [-28]
+        self.orders.append(what)
+        return [len(self.orders)] + self.last_order()
+
+    def last_order(self):
+        return sent_order(self.orders[-1], len(self.orders))
+
+    def is_answered(self):
+        return len(self.orders) in self.answered
+
+    def heard(self, m):
+        if len(m) != 8:
+            return [-71]
+        number = int.from_bytes(bytes(m[2:4]), "little")
+        ticks = int.from_bytes(bytes(m[5:8]), "little")
+        if m[0] == 2 and 1 <= m[1] <= 2 and number > 0 and sum(m[4:]) == 0:
+            # Of one that isn't sent yet it tells nothing.
+            if number == len(self.orders):
+                self.answered.append(number)
+            return [0]
+        if m[0] == 3 and m[1] < 6 and m[2] < 32 and m[3] < 32 and m[4] < 49 and ticks > 0:
+            self.known = max(self.known, (ticks, *m[1:5]), key=lambda known: known[0])
+            return [0]
+        return [-71]
+
+    def tick(self):
+        self.ticks += 1
+        if self.ticks % 5 or not self.orders or self.is_answered():
+            return [0]
+        return [0] + self.last_order()
+
+    def state(self):
+        what = self.orders[-1] if self.orders else 0
+        return [0, len(self.orders), what, int(self.is_answered()), *self.known]
+
+
+# --- maps for several of the tests, and maps by chance, the same each time
+
+# Where much is possible: room round a port, and a port that is come to from below.
+ROOMY = [
+    World(6, 5, 0, 3, 2, [(3, 1, 4, 3)]),
+    World(5, 6, 3, 2, 1, [(1, 0, 3, 1), (4, 4, 4, 4)]),
+]
+# A port at the near corner of a box.
+CORNER = World(8, 7, 0, 6, 3, [(6, 3, 7, 4)])
+
 
 def some_world(random, widest=5, highest=5, most_boxes=3):
     while True:

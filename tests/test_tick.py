@@ -3,7 +3,7 @@
 import unittest
 
 from softport.messages import report_of, report_without_state
-from tests.by_words import (ALONGSIDE, AWAY, HEADINGS, World, ask, behind, cr_state, cr_tick, order, report,
+from tests.by_words import (ALONGSIDE, AWAY, CORNER, HEADINGS, World, ask, behind, cr_state, cr_tick, order, report,
                             some_worlds)
 
 LOWEST = -2147483648
@@ -11,8 +11,6 @@ HIGHEST = 2147483647
 
 # A row of six places; the port is the last one.
 ROW = World(6, 1, 0, 5, 0, [(5, 0, 5, 0)])
-# A port at the near corner of a box.
-CORNER = World(8, 7, 0, 6, 3, [(6, 3, 7, 4)])
 # A port that nobody comes to: the place before it is walled in.
 WALLED = World(6, 5, 0, 3, 2, [(3, 2, 3, 2), (1, 1, 3, 1), (1, 3, 3, 3), (1, 2, 1, 2)])
 
